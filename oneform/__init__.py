@@ -1,0 +1,1 @@
+"""Documents of elements, read strictly and told in one form."""

@@ -1,0 +1,36 @@
+"""The calls: each answers a list of whole numbers, whose first is below 0 where it refuses."""
+
+from oneform.characters import encoded
+from oneform.faults import NoDocument, TooDeep
+from oneform.grammar import read_document
+
+NO_DOCUMENT = -2
+LONGER_THAN_MOST = -3
+TOO_DEEP = -4
+
+
+def document_form(document):
+    characters = []
+    for instruction in document.before:
+        characters.extend(instruction.told() + [10])
+    for piece in document.pieces:
+        characters.extend(piece.told())
+    for instruction in document.behind:
+        characters.extend([10] + instruction.told())
+    return encoded(characters)
+
+
+def answer(most, told):
+    if len(told) > most:
+        return [LONGER_THAN_MOST]
+    return [len(told)] + told
+
+
+def form(most, text):
+    try:
+        told = document_form(read_document(text))
+    except NoDocument:
+        return [NO_DOCUMENT]
+    except TooDeep:
+        return [TOO_DEEP]
+    return answer(most, told)

@@ -1,0 +1,120 @@
+"""The interface: names, arguments, kinds, what is kept and what is changed."""
+
+import ast
+import inspect
+import pathlib
+import sys
+import unittest
+
+import oneform
+import oneform.elementss
+from oneform.elementss import form
+from tests.helper import octets
+
+TEXTS = (
+    "<?p?><a c='1' b='&#10;\"'>x\r\n<b/>&amp;<![CDATA[<]]></a>",
+    "<a>\u20ac</a>",
+    "<a>",
+    "",
+    "<a>" * 65 + "</a>" * 65,
+    "<a/>",
+)
+
+
+class Frozen(list):
+    """A list that fails where one tries to change it, be it for a while."""
+
+    def refuse(self, *what, **more):
+        raise AssertionError("what is handed in is changed")
+
+    append = extend = insert = remove = pop = clear = sort = reverse = refuse
+    __setitem__ = __delitem__ = __iadd__ = __imul__ = refuse
+
+
+class Interface(unittest.TestCase):
+    def test_names_and_arguments(self):
+        self.assertEqual(list(inspect.signature(form).parameters), ["most", "text"])
+        self.assertEqual(form(most=7, text=octets("<a/>")), form(7, octets("<a/>")))
+
+    def test_what_is_given_back(self):
+        self.assertEqual(form(100, octets("<a/>")), [7] + octets("<a></a>"))
+        self.assertEqual(form(6, octets("<a/>")), [-3])
+        self.assertEqual(form(100, octets("<a>")), [-2])
+        self.assertEqual(form(10000, octets("<a>" * 65 + "</a>" * 65)), [-4])
+
+    def test_kinds(self):
+        for text in TEXTS:
+            answer = form(100, octets(text))
+            self.assertIs(type(answer), list)
+            for number in answer:
+                self.assertIs(type(number), int)
+
+    def test_bytes_are_from_0_to_255(self):
+        for number in form(100, octets("<a>\u20ac\U0010ffff</a>"))[1:]:
+            self.assertIn(number, range(256))
+
+    def test_what_is_handed_in_stays(self):
+        for text in TEXTS:
+            handed_in = Frozen(octets(text))
+            form(100, handed_in)
+            self.assertEqual(list(handed_in), octets(text))
+
+    def test_a_second_call_answers_as_the_first(self):
+        first = [form(100, octets(text)) for text in TEXTS]
+        for most in (100, 3, 100):
+            again = [form(most, octets(text)) for text in reversed(TEXTS)]
+        self.assertEqual(list(reversed(again)), first)
+
+    def test_what_was_given_back_is_the_callers(self):
+        text = octets("<a b='&lt;'>&gt;</a>")
+        answer = form(100, text)
+        expected = list(answer)
+        answer.clear()
+        self.assertEqual(form(100, text), expected)
+
+    def test_the_answer_is_not_what_was_handed_in(self):
+        text = octets("<a></a>")
+        answer = form(100, text)
+        answer.append(0)
+        self.assertEqual(text, octets("<a></a>"))
+
+    def test_few_calls_within_one_another(self):
+        # The frames that are there already count too.
+        limit = sys.getrecursionlimit()
+        sys.setrecursionlimit(len(inspect.stack()) + 40)
+        try:
+            deep = form(100, octets("<a>" * 1170 + "</a>" * 1170))
+            long = form(8192, octets("<a>" + "x" * 8185 + "</a>"))
+        finally:
+            sys.setrecursionlimit(limit)
+        self.assertEqual(deep, [-4])
+        self.assertEqual(long[0], 8192)
+
+
+class Package(unittest.TestCase):
+    def files(self):
+        return sorted(pathlib.Path(oneform.__file__).parent.glob("*.py"))
+
+    def test_it_imports_nothing_but_its_own(self):
+        for path in self.files():
+            for node in ast.walk(ast.parse(path.read_text())):
+                self.assertNotIsInstance(node, ast.Import, path)
+                if isinstance(node, ast.ImportFrom):
+                    self.assertEqual((node.level, node.module.split(".")[0]), (0, "oneform"), path)
+
+    def test_it_prints_and_reads_nothing(self):
+        for path in self.files():
+            for node in ast.walk(ast.parse(path.read_text())):
+                if isinstance(node, ast.Name):
+                    self.assertNotIn(node.id, ("print", "input", "open", "exec", "eval"), path)
+
+    def test_sizes_and_signs(self):
+        for path in self.files():
+            rows = path.read_text().split("\n")
+            self.assertLessEqual(len(rows), 401, path)
+            for row in rows:
+                self.assertLessEqual(len(row), 120, path)
+                self.assertTrue(all(" " <= sign <= "~" for sign in row), path)
+            for node in ast.walk(ast.parse("\n".join(rows))):
+                if isinstance(node, ast.FunctionDef):
+                    self.assertLess(node.end_lineno - node.lineno, 40, node.name)
