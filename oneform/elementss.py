@@ -20,6 +20,10 @@ def document_form(document):
     return encoded(characters)
 
 
+def text_form(text):
+    return document_form(read_document(text))
+
+
 def answer(most, told):
     if len(told) > most:
         return [LONGER_THAN_MOST]
@@ -28,9 +32,21 @@ def answer(most, told):
 
 def form(most, text):
     try:
-        told = document_form(read_document(text))
+        told = text_form(text)
     except NoDocument:
         return [NO_DOCUMENT]
     except TooDeep:
         return [TOO_DEEP]
     return answer(most, told)
+
+
+def same(a, b):
+    try:
+        # All of a is read ahead of b, so that whatever fault a has comes first.
+        form_of_a = text_form(a)
+        form_of_b = text_form(b)
+    except NoDocument:
+        return [NO_DOCUMENT]
+    except TooDeep:
+        return [TOO_DEEP]
+    return [1 if form_of_a == form_of_b else 0]

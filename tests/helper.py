@@ -1,4 +1,4 @@
-"""What the tests share: calls of form with texts, and its answers as bytes or as a refusal's number."""
+"""What the tests share: texts, calls of form with them, and its answers as bytes or as a refusal's number."""
 
 import unittest
 
@@ -9,6 +9,10 @@ PLENTY = 2147483647
 
 def octets(text):
     return list(text.encode("utf-8") if isinstance(text, str) else text)
+
+
+def nested(depth, inmost=""):
+    return "<a>" * depth + inmost + "</a>" * depth
 
 
 def answered(text, most=PLENTY):

@@ -1,10 +1,6 @@
 """Points 7 to 9: the one form, the refusals and which comes first."""
 
-from tests.helper import PLENTY, FormTest, answered
-
-
-def nested(depth, inmost=""):
-    return "<a>" * depth + inmost + "</a>" * depth
+from tests.helper import PLENTY, FormTest, answered, nested
 
 
 class OneForm(FormTest):

@@ -1,14 +1,17 @@
 """The interface: names, arguments, kinds, what is kept and what is changed."""
 
 import ast
+import contextlib
 import inspect
+import io
+import itertools
 import pathlib
 import sys
 import unittest
 
 import oneform
 import oneform.elementss
-from oneform.elementss import form
+from oneform.elementss import form, same
 from tests.helper import octets
 
 TEXTS = (
@@ -89,6 +92,91 @@ class Interface(unittest.TestCase):
             sys.setrecursionlimit(limit)
         self.assertEqual(deep, [-4])
         self.assertEqual(long[0], 8192)
+
+
+class InterfaceOfSame(unittest.TestCase):
+    def test_names_and_arguments(self):
+        self.assertEqual(list(inspect.signature(same).parameters), ["a", "b"])
+        self.assertEqual(same(b=octets("<a>"), a=octets("<a>" * 65 + "</a>" * 65)), [-4])
+
+    def test_what_is_given_back(self):
+        self.assertEqual(same(octets("<a/>"), octets("<a></a>")), [1])
+        self.assertEqual(same(octets("<a/>"), octets("<b/>")), [0])
+        self.assertEqual(same(octets("<a>"), octets("<a/>")), [-2])
+        self.assertEqual(same(octets("<a/>"), octets("<a>" * 65 + "</a>" * 65)), [-4])
+
+    def test_kinds(self):
+        for a, b in itertools.product(TEXTS, repeat=2):
+            answer = same(octets(a), octets(b))
+            self.assertIs(type(answer), list)
+            self.assertEqual([type(number) for number in answer], [int])
+
+    def test_empty_and_longest_texts_are_in_their_range(self):
+        longest = octets("<a>" + "x" * 8185 + "</a>")
+        self.assertEqual(len(longest), 8192)
+        self.assertEqual(same([], []), [-2])
+        self.assertEqual(same([], longest), [-2])
+        self.assertEqual(same(longest, []), [-2])
+        self.assertEqual(same(longest, list(longest)), [1])
+
+    def test_what_is_handed_in_stays(self):
+        for a, b in itertools.product(TEXTS, repeat=2):
+            first = Frozen(octets(a))
+            second = Frozen(octets(b))
+            same(first, second)
+            self.assertEqual((list(first), list(second)), (octets(a), octets(b)))
+
+    def test_one_and_the_same_list_stays(self):
+        for text in TEXTS:
+            both = Frozen(octets(text))
+            fault = form(100, both) if form(100, both)[0] < 0 else [1]
+            self.assertEqual(same(both, both), fault)
+            self.assertEqual(list(both), octets(text))
+
+    def test_a_second_call_answers_as_the_first(self):
+        pairs = list(itertools.product(TEXTS, repeat=2))
+        first = [same(octets(a), octets(b)) for a, b in pairs]
+        for text in TEXTS:
+            form(3, octets(text))
+        again = [same(octets(a), octets(b)) for a, b in reversed(pairs)]
+        self.assertEqual(list(reversed(again)), first)
+
+    def test_a_list_that_its_owner_changed_is_read_anew(self):
+        a = octets("<a/>")
+        b = octets("<a/>")
+        self.assertEqual(same(a, b), [1])
+        b[1] = ord("b")
+        self.assertEqual(same(a, b), [0])
+        a[1] = ord("b")
+        self.assertEqual(same(a, b), [1])
+        a.pop()
+        self.assertEqual(same(a, b), [-2])
+
+    def test_what_was_given_back_is_the_callers(self):
+        for text in TEXTS:
+            answer = same(octets(text), octets(text))
+            expected = list(answer)
+            answer.append(7)
+            self.assertEqual(same(octets(text), octets(text)), expected)
+
+    def test_few_calls_within_one_another(self):
+        deep = octets("<a>" * 1170 + "</a>" * 1170)
+        long = octets("<a>" + "x" * 8185 + "</a>")
+        # The frames that are there already count too.
+        limit = sys.getrecursionlimit()
+        sys.setrecursionlimit(len(inspect.stack()) + 40)
+        try:
+            answers = [same(deep, long), same(long, deep), same(long, long)]
+        finally:
+            sys.setrecursionlimit(limit)
+        self.assertEqual(answers, [[-4], [-4], [1]])
+
+    def test_it_prints_nothing(self):
+        out = io.StringIO()
+        with contextlib.redirect_stdout(out), contextlib.redirect_stderr(out):
+            for a, b in itertools.product(TEXTS, repeat=2):
+                same(octets(a), octets(b))
+        self.assertEqual(out.getvalue(), "")
 
 
 class Package(unittest.TestCase):
