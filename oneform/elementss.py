@@ -1,12 +1,16 @@
 """The calls: each answers a list of whole numbers, whose first is below 0 where it refuses."""
 
 from oneform.characters import encoded
-from oneform.faults import NoDocument, TooDeep
+from oneform.faults import NoDocument, NoPart, NoPath, TooDeep
 from oneform.grammar import read_document
+from oneform.parts import part_characters
+from oneform.paths import read_path
 
+NO_PATH = -1
 NO_DOCUMENT = -2
 LONGER_THAN_MOST = -3
 TOO_DEEP = -4
+NO_PART = -5
 
 
 def document_form(document):
@@ -50,3 +54,19 @@ def same(a, b):
     except TooDeep:
         return [TOO_DEEP]
     return [1 if form_of_a == form_of_b else 0]
+
+
+def part(most, text, path):
+    try:
+        # All of the path is read ahead of the text, so that its fault comes first.
+        way = read_path(path)
+        told = encoded(part_characters(read_document(text), way))
+    except NoPath:
+        return [NO_PATH]
+    except NoDocument:
+        return [NO_DOCUMENT]
+    except TooDeep:
+        return [TOO_DEEP]
+    except NoPart:
+        return [NO_PART]
+    return answer(most, told)

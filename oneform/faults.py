@@ -1,4 +1,8 @@
-"""What a text is refused for: raised where it's found, answered by the calls."""
+"""What a call is refused for: raised where it's found, answered by the calls."""
+
+
+class NoPath(ValueError):
+    pass
 
 
 class NoDocument(ValueError):
@@ -6,4 +10,8 @@ class NoDocument(ValueError):
 
 
 class TooDeep(ValueError):
+    pass
+
+
+class NoPart(ValueError):
     pass

@@ -11,7 +11,7 @@ import unittest
 
 import oneform
 import oneform.elementss
-from oneform.elementss import form, same
+from oneform.elementss import form, part, same
 from tests.helper import octets
 
 TEXTS = (
@@ -176,6 +176,108 @@ class InterfaceOfSame(unittest.TestCase):
         with contextlib.redirect_stdout(out), contextlib.redirect_stderr(out):
             for a, b in itertools.product(TEXTS, repeat=2):
                 same(octets(a), octets(b))
+        self.assertEqual(out.getvalue(), "")
+
+
+PATHS = ("a", "a[1]", "a/b", "a/@b", "a/@c", "a/b[2]", "x", "a/", "", "a[0]")
+
+
+class InterfaceOfPart(unittest.TestCase):
+    def test_names_and_arguments(self):
+        self.assertEqual(list(inspect.signature(part).parameters), ["most", "text", "path"])
+        self.assertEqual(part(path=octets("a/@b"), most=1, text=octets("<a b='1'/>")), [1, ord("1")])
+
+    def test_what_is_given_back(self):
+        text = octets("<a b='12'>345</a>")
+        self.assertEqual(part(100, text, octets("a")), [3] + octets("345"))
+        self.assertEqual(part(100, text, octets("a/@b")), [2] + octets("12"))
+        self.assertEqual(part(100, text, octets("a/")), [-1])
+        self.assertEqual(part(100, octets("<a>"), octets("a")), [-2])
+        self.assertEqual(part(2, text, octets("a")), [-3])
+        self.assertEqual(part(100, octets("<a>" * 65 + "</a>" * 65), octets("a")), [-4])
+        self.assertEqual(part(100, text, octets("b")), [-5])
+
+    def test_kinds(self):
+        for text, path, most in itertools.product(TEXTS, PATHS, (100, 0, -1)):
+            answer = part(most, octets(text), octets(path))
+            self.assertIs(type(answer), list)
+            for number in answer:
+                self.assertIs(type(number), int)
+
+    def test_bytes_are_from_0_to_255(self):
+        for number in part(100, octets("<a>\u20ac\U0010ffff&#x10ffff;</a>"), octets("a"))[1:]:
+            self.assertIn(number, range(256))
+
+    def test_empty_lists_are_in_their_range(self):
+        self.assertEqual(part(100, [], []), [-1])
+        self.assertEqual(part(100, octets("<a/>"), []), [-1])
+        self.assertEqual(part(100, [], octets("a")), [-2])
+
+    def test_what_is_handed_in_stays(self):
+        for text, path in itertools.product(TEXTS, PATHS):
+            first = Frozen(octets(text))
+            second = Frozen(octets(path))
+            part(100, first, second)
+            self.assertEqual((list(first), list(second)), (octets(text), octets(path)))
+
+    def test_one_and_the_same_list_as_both(self):
+        both = Frozen(octets("a"))
+        self.assertEqual(part(100, both, both), [-2])
+        both = Frozen(octets("<a/>"))
+        self.assertEqual(part(100, both, both), [-1])
+
+    def test_a_second_call_answers_as_the_first(self):
+        pairs = list(itertools.product(TEXTS, PATHS))
+        first = [part(100, octets(text), octets(path)) for text, path in pairs]
+        for text in TEXTS:
+            form(3, octets(text))
+            same(octets(text), octets("<a/>"))
+            part(1, octets(text), octets("a"))
+        again = [part(100, octets(text), octets(path)) for text, path in reversed(pairs)]
+        self.assertEqual(list(reversed(again)), first)
+
+    def test_lists_that_their_owner_changed_are_read_anew(self):
+        text = octets("<a b='1'>2</a>")
+        path = octets("a")
+        self.assertEqual(part(100, text, path), [1, ord("2")])
+        text[9] = ord("3")
+        self.assertEqual(part(100, text, path), [1, ord("3")])
+        path.extend(octets("/@b"))
+        self.assertEqual(part(100, text, path), [1, ord("1")])
+        path.pop()
+        self.assertEqual(part(100, text, path), [-1])
+
+    def test_what_was_given_back_is_the_callers(self):
+        text = octets("<a b='1'>2</a>")
+        for path in ("a", "a/@b", "b", "a/"):
+            answer = part(100, text, octets(path))
+            expected = list(answer)
+            answer.append(7)
+            self.assertEqual(part(100, text, octets(path)), expected)
+
+    def test_few_calls_within_one_another(self):
+        deep = octets("<a>" * 1170 + "</a>" * 1170)
+        long = octets("<a>" + "x" * 8185 + "</a>")
+        many = octets("<a>" + "<b/>" * 2046 + "</a>")
+        nested = octets("<a>" * 64 + "x" + "</a>" * 64)
+        # The frames that are there already count too.
+        limit = sys.getrecursionlimit()
+        sys.setrecursionlimit(len(inspect.stack()) + 40)
+        try:
+            answers = [
+                part(100, deep, octets("a/" * 127 + "a")), part(100, long, octets("a")),
+                part(100, many, octets("a/b[2046]")), part(100, nested, octets("a/" * 63 + "a")),
+                part(100, nested, octets("a/" * 128)),
+            ]
+        finally:
+            sys.setrecursionlimit(limit)
+        self.assertEqual(answers, [[-4], [-3], [0], [1, ord("x")], [-1]])
+
+    def test_it_prints_nothing(self):
+        out = io.StringIO()
+        with contextlib.redirect_stdout(out), contextlib.redirect_stderr(out):
+            for text, path in itertools.product(TEXTS, PATHS):
+                part(100, octets(text), octets(path))
         self.assertEqual(out.getvalue(), "")
 
 
